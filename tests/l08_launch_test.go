@@ -436,7 +436,7 @@ func TestEachActiveRun(t *testing.T) {
 		for _, on := range devicesOf(l) {
 			checkDevices(t, l, on, true)
 			for from := range int64(len(l.Segments)) {
-				for _, count := range []int64{0, 1, 2, 3, 7, 8, 9, impl.MaxSegments - 1, impl.MaxSegments} {
+				for count := range int64(impl.MaxSegments + 1) {
 					for _, e := range []impl.Interval{only(0), span(0, full), span(30, 31), span(100, 1000), span(400000000, 500000000), span(full-500, full-400), only(full)} {
 						want, code, doubt := activeBySteps(l, from, count, e, on)
 						checkActiveAlong(t, l, from, count, e, on, want, code)
